@@ -1,7 +1,10 @@
 // Package impl: recorders that keep one book.
 package impl
 
-import "cmp"
+import (
+	"cmp"
+	"slices"
+)
 
 // Limits of recorders.
 const (
@@ -101,4 +104,26 @@ func slotOk(s RecSlot) bool {
 
 func within(n int, low int, high int) bool {
 	return low <= n && n <= high
+}
+
+func slotIsOf(d RecDisk, index int, ballot int) bool {
+	return index <= len(d.Slots) && d.Slots[index-1].Ballot == ballot
+}
+
+func putSlot(d *RecDisk, index int, s RecSlot) {
+	for len(d.Slots) < index {
+		d.Slots = append(d.Slots, RecSlot{})
+	}
+	d.Slots[index-1] = s
+}
+
+func knowsText(d RecDisk, text string) bool {
+	return slices.ContainsFunc(d.Slots[:d.Known], func(s RecSlot) bool {
+		return s.Text == text
+	})
+}
+
+// copyList leaves an empty list's memory behind too, which slices.Clone keeps hold of.
+func copyList[T any](list []T) []T {
+	return append([]T(nil), list...)
 }

@@ -175,3 +175,21 @@ func ascendingWithin[T any](list []T, key func(T) int, high int) bool {
 func downOk(r Recorder) bool {
 	return !r.Lead && !r.Trying && len(r.Held) == 0 && len(r.Wishes) == 0 && r.Heard == 0
 }
+
+// copyRecorder copies each list on its own, so that lists which share memory in an argument share none in an answer.
+func copyRecorder(r Recorder) Recorder {
+	r.Safe.Slots = copyList(r.Safe.Slots)
+	r.Disk.Slots = copyList(r.Disk.Slots)
+	r.Held = copyList(r.Held)
+	for i := range r.Held {
+		r.Held[i].Slots = copyList(r.Held[i].Slots)
+	}
+	r.Wishes = copyList(r.Wishes)
+	r.Yes = copyList(r.Yes)
+	r.Best = copyList(r.Best)
+	r.Acks = copyList(r.Acks)
+	for i := range r.Acks {
+		r.Acks[i].From = copyList(r.Acks[i].From)
+	}
+	return r
+}
