@@ -123,6 +123,12 @@ func knowsText(d RecDisk, text string) bool {
 	})
 }
 
+func hasText(d RecDisk, text string) bool {
+	return slices.ContainsFunc(d.Slots, func(s RecSlot) bool {
+		return s.Ballot > 0 && s.Text == text
+	})
+}
+
 // copyList leaves an empty list's memory behind too, which slices.Clone keeps hold of.
 func copyList[T any](list []T) []T {
 	return append([]T(nil), list...)

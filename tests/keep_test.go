@@ -149,12 +149,10 @@ func someRole(rnd *rand.Rand, r *impl.Recorder) {
 	}
 }
 
-// checkKept holds an answer to promise 3, and to what no message and no wish may touch.
+// checkKept holds an answer to promises 3 and 4, and to what no message and no wish may touch.
 func checkKept(t *testing.T, name string, before impl.Recorder, after impl.Recorder) {
 	t.Helper()
-	if !impl.RecValid(after) {
-		t.Errorf("%s: not valid: %+v", name, after)
-	}
+	checkForth(t, name, before, after)
 	for _, m := range after.Held {
 		if !impl.RecMessageOk(m, before.Of) || m.From != before.Number {
 			t.Errorf("%s: holds %+v", name, m)
@@ -163,17 +161,11 @@ func checkKept(t *testing.T, name string, before impl.Recorder, after impl.Recor
 	if after.Number != before.Number || after.Of != before.Of || after.Up != before.Up || !reflect.DeepEqual(plain(after).Safe, plain(before).Safe) {
 		t.Errorf("%s: what it is or what is safe has changed: %+v", name, after)
 	}
-	if after.Disk.Promise < before.Disk.Promise || after.Disk.Known < before.Disk.Known {
-		t.Errorf("%s: the disk went back: %+v", name, after.Disk)
-	}
 	if len(after.Held) < len(before.Held) || !reflect.DeepEqual(plain(before).Held, ownList(plain(after).Held[:len(before.Held)])) {
 		t.Errorf("%s: what was held has changed", name)
 	}
 	if len(after.Wishes) < len(before.Wishes) || !slices.Equal(after.Wishes[:len(before.Wishes)], before.Wishes) {
 		t.Errorf("%s: wishes are gone", name)
-	}
-	if known := before.Disk.Known; !slices.Equal(after.Disk.Slots[:known], before.Disk.Slots[:known]) {
-		t.Errorf("%s: what was known has changed", name)
 	}
 }
 

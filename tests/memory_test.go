@@ -163,15 +163,37 @@ func checkedTake(t *testing.T, name string, r impl.Recorder, m impl.RecMessage) 
 	return got
 }
 
-// checkedWish is RecWish, held to the same.
-func checkedWish(t *testing.T, name string, r impl.Recorder, text string) impl.Recorder {
+// checkedCall is a call with a recorder alone, held to the same.
+func checkedCall[A any](t *testing.T, name string, r impl.Recorder, call func(r impl.Recorder) A) A {
 	t.Helper()
 	was := roomyRecorder(r)
 	r = roomyRecorder(r)
-	got := impl.RecWish(r, text)
+	got := call(r)
 	if !sameWhole(reflect.ValueOf(r), reflect.ValueOf(was)) {
 		t.Errorf("%s: the argument was changed", name)
 	}
 	checkOwnMemory(t, name, got, r)
 	return got
+}
+
+func checkedWish(t *testing.T, name string, r impl.Recorder, text string) impl.Recorder {
+	t.Helper()
+	return checkedCall(t, name, r, func(r impl.Recorder) impl.Recorder { return impl.RecWish(r, text) })
+}
+
+// ticked is the answer of RecTick as one value, since its two results share no memory either.
+type ticked struct {
+	R    impl.Recorder
+	Sent []impl.RecMessage
+}
+
+func tickOf(r impl.Recorder) ticked {
+	after, sent := impl.RecTick(r)
+	return ticked{after, sent}
+}
+
+func checkedTick(t *testing.T, name string, r impl.Recorder) (impl.Recorder, []impl.RecMessage) {
+	t.Helper()
+	got := checkedCall(t, name, r, tickOf)
+	return got.R, got.Sent
 }
