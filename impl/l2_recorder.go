@@ -180,10 +180,7 @@ func downOk(r Recorder) bool {
 func copyRecorder(r Recorder) Recorder {
 	r.Safe.Slots = copyList(r.Safe.Slots)
 	r.Disk.Slots = copyList(r.Disk.Slots)
-	r.Held = copyList(r.Held)
-	for i := range r.Held {
-		r.Held[i].Slots = copyList(r.Held[i].Slots)
-	}
+	r.Held = copyMessages(r.Held)
 	r.Wishes = copyList(r.Wishes)
 	r.Yes = copyList(r.Yes)
 	r.Best = copyList(r.Best)
@@ -192,4 +189,12 @@ func copyRecorder(r Recorder) Recorder {
 		r.Acks[i].From = copyList(r.Acks[i].From)
 	}
 	return r
+}
+
+func copyMessages(list []RecMessage) []RecMessage {
+	copied := copyList(list)
+	for i := range copied {
+		copied[i].Slots = copyList(copied[i].Slots)
+	}
+	return copied
 }

@@ -102,10 +102,14 @@ func wrongMessage(rnd *rand.Rand, number int, of int) impl.RecMessage {
 	return m
 }
 
-// someRecorder is valid, in any role, at times with its lists nearly full.
 func someRecorder(rnd *rand.Rand) impl.Recorder {
 	of := 1 + rnd.Intn(impl.RecMaxRecorders)
-	r := impl.RecNew(1+rnd.Intn(of), of)
+	return someRecorderOf(rnd, 1+rnd.Intn(of), of)
+}
+
+// someRecorderOf is valid, in any role, at times with its lists nearly full.
+func someRecorderOf(rnd *rand.Rand, number int, of int) impl.Recorder {
+	r := impl.RecNew(number, of)
 	most := 7
 	if rnd.Intn(6) == 0 {
 		most = impl.RecMaxSlots
